@@ -159,75 +159,13 @@ func TestFlowsAreTheirOwn(t *testing.T) {
 	}
 }
 
-func TestFlowOfNoLines(t *testing.T) {
-	for _, list := range [][]impl.Line{nil, {}, make([]impl.Line, 0, 5), manyMoves(3)[:0]} {
-		wantNoFlow(t, list)
-	}
-}
-
-func TestFlowOfTooManyLines(t *testing.T) {
-	for _, rows := range []int{301, 302, 512, 600, 65536} {
-		for _, l := range []impl.Line{lnTrap(), lnGive(0), lnJump(0), lnJump(299)} {
-			wantNoFlow(t, slices.Repeat([]impl.Line{l}, rows))
+// Lists that just are not right have nothing, however near they are to it.
+func TestFlowAtTheEdges(t *testing.T) {
+	eachEdge(func(list []impl.Line, right bool) {
+		if wantAsFlows(t, list) != right {
+			t.Fatalf("right is %v, of%s", right, showLines(list))
 		}
-		wantNoFlow(t, manyMoves(rows))
-	}
-	for _, last := range []impl.Line{lnJump(299), lnJump(0), lnGive(2), lnTrap()} {
-		if !wantAsFlows(t, append(manyMoves(299), last)) {
-			t.Fatal("300 are not too many")
-		}
-		wantNoFlow(t, append(manyMoves(300), last))
-	}
-}
-
-// One line that is not right is one too many, wherever it stands, also where nobody comes to it.
-func TestFlowOfOneWrongLine(t *testing.T) {
-	for _, wrong := range wrongLines() {
-		for _, rows := range []int64{1, 2, 5, 300} {
-			for _, at := range placesAmong(rows) {
-				list := manyMoves(int(rows))
-				list[at] = wrong
-				wantNoFlow(t, list)
-				list = slices.Repeat([]impl.Line{lnJump(0)}, int(rows))
-				list[at] = wrong
-				wantNoFlow(t, list)
-			}
-		}
-	}
-}
-
-// One that goes to no line is none, however near that would be.
-func TestFlowOfPlacesThatAreNotThere(t *testing.T) {
-	for _, rows := range someRows {
-		for _, at := range placesAmong(rows) {
-			for _, place := range []int64{rows, rows + 1, 299, 300, -1, -rows, 4294967296, leastInt, greatestInt} {
-				if place >= 0 && place < rows {
-					continue
-				}
-				wantNoFlow(t, among(lnJump(place), at, rows))
-				if at < rows-1 {
-					wantNoFlow(t, among(lnIf(0, place), at, rows))
-				}
-			}
-		}
-	}
-}
-
-// The last line is one behind which none is wanted.
-func TestFlowOfALastLineThatGoesOn(t *testing.T) {
-	for _, r := range lineRules {
-		for _, rows := range someRows {
-			l := r.leastLine()
-			list := append(manyMoves(int(rows))[:rows-1], l)
-			ends := r.kind == 5 || r.kind == 10 || r.kind == 11
-			if wantAsFlows(t, list) != ends {
-				t.Fatalf("right is %v, of%s", !ends, showLines(list))
-			}
-			if !ends {
-				wantNoFlow(t, among(l, rows-1, rows))
-			}
-		}
-	}
+	})
 }
 
 // P21: whatever is given, each of the four answers, and answers as the plain flow does.

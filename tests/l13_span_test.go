@@ -21,6 +21,8 @@ func TestSpansByHand(t *testing.T) {
 	wantSpans(t, []impl.Line{lnSet(0, 5), lnSet(1, 1), lnSet(2, 2), lnIf(2, 4), lnBin(0, 0, 1, impl.BoAdd), lnGive(0)}, span(0, 0, 5), span(1, 1, 4), span(2, 2, 3))
 	wantSpans(t, []impl.Line{lnLoad(3, 1, 8), lnStore(2, 3, 4), lnCall(5, 1, 0), lnMove(4, 5), lnZero(1, 4), lnGive(1)},
 		span(0, 0, 2), span(1, 0, 5), span(2, 0, 1), span(3, 0, 1), span(4, 3, 4), span(5, 2, 3))
+	// As many lines as there may be.
+	wantSpans(t, manyMoves(300), span(0, 0, 299), span(1, 0, 298), span(2, 0, 298))
 	// The lines between count, also where the box is wanted at none of them: box 1 is wanted at lines 0 and 3 only.
 	wantSpans(t, []impl.Line{lnStore(1, 1, 0), lnSet(2, 7), lnStore(2, 2, 0), lnMove(1, 0), lnGive(0)}, span(0, 0, 4), span(1, 0, 3), span(2, 1, 2))
 }
